@@ -1,0 +1,1 @@
+"""Capacity planning for queueing stations, with exact results."""
