@@ -4,6 +4,15 @@ from stationplans.queues import mean_number, utilization
 from stationplans.ratios import less, times, whole
 
 
+class Choice:
+    """An allowed option of a station: its number there, its cost and its weighted number."""
+
+    def __init__(self, place, cost, mean):
+        self.place = place
+        self.cost = cost
+        self.mean = mean
+
+
 def option_utilization(station, option):
     """The utilization of an option of the station."""
     return utilization(station.arrival, option.servers, option.rate)
@@ -30,25 +39,30 @@ def allowed_places(model, station):
     return [place for place, option in enumerate(station.options) if is_allowed(model, station, option)]
 
 
+def choice_at(station, place):
+    """The allowed option with this number."""
+    option = station.options[place]
+    return Choice(place, option.cost, weighted_mean(station, option))
+
+
+def allowed_choices(model, station):
+    """The station's allowed options, in the order of their numbers."""
+    return [choice_at(station, place) for place in allowed_places(model, station)]
+
+
 def dominated_places(model, station):
     """The numbers of the allowed options that an allowed option dominates, in increasing order."""
-    places = allowed_places(model, station)
-    pairs = [cost_and_mean(station, station.options[place]) for place in places]
-    return [place for place, pair in zip(places, pairs) if is_dominated(pair, pairs)]
+    choices = allowed_choices(model, station)
+    return [choice.place for choice in choices if is_dominated(choice, choices)]
 
 
-def cost_and_mean(station, option):
-    """The cost and the weighted number of an allowed option."""
-    return (option.cost, weighted_mean(station, option))
-
-
-def is_dominated(pair, others):
-    """Whether one of the others dominates the pair of a cost and a number."""
-    return any([dominates(other, pair) for other in others])
+def is_dominated(choice, others):
+    """Whether one of the others dominates the choice."""
+    return any([dominates(other, choice) for other in others])
 
 
 def dominates(one, other):
-    """Whether a pair of a cost and a number dominates another one."""
-    if one[0] > other[0] or less(other[1], one[1]):
+    """Whether a choice dominates another one, or a plan another one."""
+    if one.cost > other.cost or less(other.mean, one.mean):
         return False
-    return one != other
+    return one.cost < other.cost or less(one.mean, other.mean)

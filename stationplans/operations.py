@@ -1,75 +1,63 @@
-"""The operations: each takes the object and the call's whole numbers, and answers a list."""
+"""The operations: each takes the object and the call's arguments, and answers a list."""
 
-from stationplans.choices import allowed_places, dominated_places, is_allowed
+from stationplans.bounds import best_bound_of, bound_for
+from stationplans.choices import allowed_places, dominated_places, dominates, is_allowed
 from stationplans.choices import option_mean, option_utilization, weighted_mean
 from stationplans.model import Model, Option
-from stationplans.ratios import ratio
-from stationplans.refusals import NotAllowed, OutOfRange, TooManyOptions
-
-MOST_STATIONS = 4
-MOST_OPTIONS = 6
-MOST_SERVERS = 10
-MOST_RATE = 100000
-MOST_WEIGHT = 1000
-MOST_COST = 100000
-MOST_PART = 1000000
+from stationplans.plans import allowed_plan, allowed_plans, best_plan, check_allowed, check_plan, feasible_ones
+from stationplans.plans import frontier_plans, improved_plan, is_feasible
+from stationplans.ranges import MOST_COST, MOST_OPTIONS, MOST_RATE, MOST_SERVERS, MOST_STATIONS, MOST_WEIGHT
+from stationplans.ranges import fraction_within, within
+from stationplans.ratios import minus
+from stationplans.refusals import NotAllowed, TooManyOptions
+from stationplans.reserves import reserve_of
 
 
-def within(number, least, most):
-    """The number itself, if it is from least to most."""
-    if number < least or number > most:
-        raise OutOfRange()
-    return number
-
-
-def create(planner, numbers):
+def create(planner, arguments):
     """Makes a new instance in the place of any other."""
-    planner.model = Model(within(numbers[0], 1, MOST_STATIONS))
+    planner.model = Model(within(arguments[0], 1, MOST_STATIONS))
     return [0]
 
 
-def set_arrival(planner, numbers):
+def set_arrival(planner, arguments):
     """Changes the arrival rate of a station."""
-    station = planner.instance().station_at(numbers[0])
-    arrival = within(numbers[1], 1, MOST_RATE)
+    station = planner.instance().station_at(arguments[0])
+    arrival = within(arguments[1], 1, MOST_RATE)
     old = station.arrival
     station.arrival = arrival
     return [old]
 
 
-def set_weight(planner, numbers):
+def set_weight(planner, arguments):
     """Changes the weight of a station."""
-    station = planner.instance().station_at(numbers[0])
-    weight = within(numbers[1], 0, MOST_WEIGHT)
+    station = planner.instance().station_at(arguments[0])
+    weight = within(arguments[1], 0, MOST_WEIGHT)
     old = station.weight
     station.weight = weight
     return [old]
 
 
-def set_target(planner, numbers):
+def set_target(planner, arguments):
     """Changes the target."""
     model = planner.instance()
-    num = within(numbers[0], 0, MOST_PART)
-    den = within(numbers[1], 1, MOST_PART)
-    model.target = ratio(num, den)
+    model.target = fraction_within(arguments[0], arguments[1])
     return [0]
 
 
-def set_limit(planner, numbers):
+def set_limit(planner, arguments):
     """Changes the limit."""
     model = planner.instance()
-    den = within(numbers[1], 1, MOST_PART)
-    num = within(numbers[0], 1, den)
-    model.limit = ratio(num, den)
+    within(arguments[0], 1, arguments[1])
+    model.limit = fraction_within(arguments[0], arguments[1])
     return [0]
 
 
-def add_option(planner, numbers):
+def add_option(planner, arguments):
     """Adds an option behind the others of a station."""
-    station = planner.instance().station_at(numbers[0])
-    servers = within(numbers[1], 1, MOST_SERVERS)
-    rate = within(numbers[2], 1, MOST_RATE)
-    cost = within(numbers[3], 0, MOST_COST)
+    station = planner.instance().station_at(arguments[0])
+    servers = within(arguments[1], 1, MOST_SERVERS)
+    rate = within(arguments[2], 1, MOST_RATE)
+    cost = within(arguments[3], 0, MOST_COST)
     place = len(station.options)
     if place >= MOST_OPTIONS:
         raise TooManyOptions()
@@ -77,77 +65,187 @@ def add_option(planner, numbers):
     return [place]
 
 
-def remove_option(planner, numbers):
+def remove_option(planner, arguments):
     """Removes an option; the later ones move up."""
-    station = planner.instance().station_at(numbers[0])
-    station.option_at(numbers[1])
-    station.options.pop(numbers[1])
+    station = planner.instance().station_at(arguments[0])
+    station.option_at(arguments[1])
+    station.options.pop(arguments[1])
     return [len(station.options)]
 
 
-def set_cost(planner, numbers):
+def set_cost(planner, arguments):
     """Changes the cost of an option."""
-    option = planner.instance().station_at(numbers[0]).option_at(numbers[1])
-    cost = within(numbers[2], 0, MOST_COST)
+    option = planner.instance().station_at(arguments[0]).option_at(arguments[1])
+    cost = within(arguments[2], 0, MOST_COST)
     old = option.cost
     option.cost = cost
     return [old]
 
 
-def option_info(planner, numbers):
+def option_info(planner, arguments):
     """Answers what an option is, and its utilization."""
-    station = planner.instance().station_at(numbers[0])
-    option = station.option_at(numbers[1])
+    station = planner.instance().station_at(arguments[0])
+    option = station.option_at(arguments[1])
     used = option_utilization(station, option)
     return [option.servers, option.rate, option.cost] + list(used)
 
 
-def option_number(planner, numbers):
+def option_number(planner, arguments):
     """Answers the number and the weighted number of an option."""
     model = planner.instance()
-    station = model.station_at(numbers[0])
-    option = station.option_at(numbers[1])
+    station = model.station_at(arguments[0])
+    option = station.option_at(arguments[1])
     if not is_allowed(model, station, option):
         raise NotAllowed()
     return [0] + list(option_mean(station, option)) + list(weighted_mean(station, option))
 
 
-def allowed(planner, numbers):
+def allowed(planner, arguments):
     """Answers the allowed options of a station."""
     model = planner.instance()
-    places = allowed_places(model, model.station_at(numbers[0]))
+    places = allowed_places(model, model.station_at(arguments[0]))
     return [len(places)] + places
 
 
-def dominated(planner, numbers):
+def dominated(planner, arguments):
     """Answers the dominated options of a station."""
     model = planner.instance()
-    places = dominated_places(model, model.station_at(numbers[0]))
+    places = dominated_places(model, model.station_at(arguments[0]))
     return [len(places)] + places
 
 
-# By the number of the operation: how many whole numbers it takes, and what carries it out.
+def evaluate(planner, arguments):
+    """Answers the cost and the number of a plan, and whether it is feasible."""
+    model = planner.instance()
+    check_plan(model, arguments[0])
+    plan = allowed_plan(model, arguments[0])
+    feasible = 1 if is_feasible(plan, model.target) else 0
+    return [plan.cost] + list(plan.mean) + [feasible]
+
+
+def best(planner, arguments):
+    """Answers the best plan."""
+    model = planner.instance()
+    return told(best_plan(model, model.target))
+
+
+def best_for(planner, arguments):
+    """Answers the best plan for another target."""
+    model = planner.instance()
+    return told(best_plan(model, fraction_within(arguments[0], arguments[1])))
+
+
+def frontier(planner, arguments):
+    """Answers the plans of the frontier."""
+    plans = frontier_plans(planner.instance())
+    answer = [len(plans)]
+    for plan in plans:
+        answer.extend(told(plan))
+    return answer
+
+
+def counts(planner, arguments):
+    """Answers how many plans are allowed, and how many are feasible."""
+    model = planner.instance()
+    plans = allowed_plans(model)
+    return [len(plans), len(feasible_ones(plans, model.target))]
+
+
+def bound(planner, arguments):
+    """Answers the bound for a multiplier."""
+    model = planner.instance()
+    found = bound_for(model, fraction_within(arguments[0], arguments[1]))
+    return [0] + list(found.least_cost)
+
+
+def best_bound(planner, arguments):
+    """Answers the best bound and its multiplier."""
+    found = best_bound_of(planner.instance())
+    return [0] + list(found.multiplier) + list(found.least_cost)
+
+
+def improvement(planner, arguments):
+    """Answers the best plan that differs from a plan at one station."""
+    model = planner.instance()
+    check_plan(model, arguments[0])
+    return told(improved_plan(model, arguments[0]))
+
+
+def reserve(planner, arguments):
+    """Answers how many percent of the arrival rates a plan bears."""
+    model = planner.instance()
+    check_plan(model, arguments[0])
+    check_allowed(model, arguments[0])
+    percent = reserve_of(model, arguments[0])
+    if percent == 0:
+        raise NotAllowed()
+    return [percent]
+
+
+def compare_plans(planner, arguments):
+    """Answers which of two plans dominates the other, and how they differ."""
+    model = planner.instance()
+    check_plan(model, arguments[0])
+    check_plan(model, arguments[1])
+    first = allowed_plan(model, arguments[0])
+    second = allowed_plan(model, arguments[1])
+    return [which_dominates(first, second), second.cost - first.cost] + list(minus(second.mean, first.mean))
+
+
+def summary(planner, arguments):
+    """Answers how many stations and options there are, the target and the limit."""
+    model = planner.instance()
+    option_counts = [len(station.options) for station in model.stations]
+    return [len(model.stations)] + list(model.target) + list(model.limit) + option_counts
+
+
+def told(plan):
+    """A plan as it is answered: its cost, its number and its options."""
+    return [plan.cost] + list(plan.mean) + plan.places
+
+
+def which_dominates(first, second):
+    """1 if the first plan dominates the second one, 2 if the second one does, otherwise 0."""
+    if dominates(first, second):
+        return 1
+    return 2 if dominates(second, first) else 0
+
+
+# By the number of the operation: how many whole numbers it takes, then how many lists, and what carries it out.
 OPERATIONS = {
-    0: (1, create),
-    1: (2, set_arrival),
-    2: (2, set_weight),
-    3: (2, set_target),
-    4: (2, set_limit),
-    5: (4, add_option),
-    6: (2, remove_option),
-    7: (3, set_cost),
-    8: (2, option_info),
-    9: (2, option_number),
-    10: (1, allowed),
-    11: (1, dominated),
+    0: (1, 0, create),
+    1: (2, 0, set_arrival),
+    2: (2, 0, set_weight),
+    3: (2, 0, set_target),
+    4: (2, 0, set_limit),
+    5: (4, 0, add_option),
+    6: (2, 0, remove_option),
+    7: (3, 0, set_cost),
+    8: (2, 0, option_info),
+    9: (2, 0, option_number),
+    10: (1, 0, allowed),
+    11: (1, 0, dominated),
+    12: (0, 1, evaluate),
+    13: (0, 0, best),
+    14: (2, 0, best_for),
+    15: (0, 0, frontier),
+    16: (0, 0, counts),
+    17: (2, 0, bound),
+    18: (0, 0, best_bound),
+    19: (0, 1, improvement),
+    20: (0, 1, reserve),
+    21: (0, 2, compare_plans),
+    22: (0, 0, summary),
 }
 
 
-def numbers_taken(operation):
-    """How many whole numbers the operation with this number takes."""
-    return OPERATIONS[operation][0]
+def read_arguments(operation, reader):
+    """The arguments of the operation with this number: its whole numbers, then its lists."""
+    numbers = [reader.number() for place in range(OPERATIONS[operation][0])]
+    rows = [reader.row() for place in range(OPERATIONS[operation][1])]
+    return numbers + rows
 
 
-def carry_out(operation, planner, numbers):
+def carry_out(operation, planner, arguments):
     """What the operation with this number answers."""
-    return OPERATIONS[operation][1](planner, numbers)
+    return OPERATIONS[operation][2](planner, arguments)

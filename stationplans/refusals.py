@@ -10,7 +10,7 @@ class Missing(Exception):
 
 
 class OutOfRange(Exception):
-    """An argument is outside its range."""
+    """An argument is outside its range, or the list isn't a plan."""
 
 
 class TooManyOptions(Exception):
@@ -18,4 +18,4 @@ class TooManyOptions(Exception):
 
 
 class NotAllowed(Exception):
-    """An option isn't allowed."""
+    """An option or a plan isn't allowed, or there is no result."""

@@ -14,6 +14,17 @@ OPTION_INFO = 8
 OPTION_NUMBER = 9
 ALLOWED = 10
 DOMINATED = 11
+EVALUATE = 12
+BEST = 13
+BEST_FOR = 14
+FRONTIER = 15
+COUNTS = 16
+BOUND = 17
+BEST_BOUND = 18
+IMPROVEMENT = 19
+RESERVE = 20
+COMPARE_PLANS = 21
+SUMMARY = 22
 
 GREATEST = 4294967295
 
@@ -22,11 +33,20 @@ MISSING = [-2]
 OUT_OF_RANGE = [-22]
 TOO_MANY = [-28]
 NOT_ALLOWED = [-33]
+NO_RESULT = [-33]
 
 
 def written(calls):
-    """The one list of whole numbers for a list of calls, each a tuple."""
-    return [number for call in calls for number in call]
+    """The one list of whole numbers for a list of calls, each a tuple of whole numbers and lists."""
+    numbers = []
+    for call in calls:
+        for argument in call:
+            if isinstance(argument, list):
+                numbers.append(len(argument))
+                numbers.extend(argument)
+            else:
+                numbers.append(argument)
+    return numbers
 
 
 def split(given):
@@ -58,3 +78,26 @@ def ask_after(ahead, calls):
 def last(calls):
     """The answer to the last of the calls."""
     return ask(calls)[-1]
+
+
+def made(stations, target=None, limit=None):
+    """The calls that make stations, each (arrival, weight, options) with options (servers, rate, cost)."""
+    calls = [(CREATE, len(stations))]
+    for place, (arrival, weight, options) in enumerate(stations):
+        calls += [(SET_ARRIVAL, place, arrival), (SET_WEIGHT, place, weight)]
+        calls += [(ADD_OPTION, place, *option) for option in options]
+    if target is not None:
+        calls.append((SET_TARGET, *target))
+    if limit is not None:
+        calls.append((SET_LIMIT, *limit))
+    return calls
+
+
+def single(number, cost):
+    """An option of one server that has this number, a divisor of 12, at a station with arrival 12."""
+    return (1, 12 + 12 // number, cost)
+
+
+def part(share, cost):
+    """An option of one server that has the number 1 / share at a station with arrival 12."""
+    return (1, 12 + 12 * share, cost)

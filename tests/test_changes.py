@@ -3,18 +3,19 @@
 import unittest
 
 from asking import (
-    ADD_OPTION, ALLOWED, CREATE, DOMINATED, GREATEST, MISSING, OPTION_INFO, OPTION_NUMBER, OUT_OF_RANGE,
-    REMOVE_OPTION, SET_ARRIVAL, SET_COST, SET_LIMIT, SET_TARGET, SET_WEIGHT, TOO_MANY, ask, ask_after,
+    ADD_OPTION, ALLOWED, BEST, COUNTS, CREATE, DOMINATED, EVALUATE, FRONTIER, GREATEST, MISSING, NO_RESULT,
+    OPTION_INFO, OPTION_NUMBER, OUT_OF_RANGE, REMOVE_OPTION, SET_ARRIVAL, SET_COST, SET_LIMIT, SET_TARGET, SET_WEIGHT,
+    SUMMARY, TOO_MANY, ask, ask_after,
 )
 
 # Two stations, the first with three options, all allowed, and the second with none.
 AHEAD = [
-    (CREATE, 2), (SET_ARRIVAL, 0, 3), (SET_WEIGHT, 0, 5), (SET_LIMIT, 3, 4),
+    (CREATE, 2), (SET_ARRIVAL, 0, 3), (SET_WEIGHT, 0, 5), (SET_LIMIT, 3, 4), (SET_TARGET, 14, 8),
     (ADD_OPTION, 0, 1, 6, 10), (ADD_OPTION, 0, 2, 3, 20), (ADD_OPTION, 0, 3, 2, 30),
 ]
 # What the calls tell of the state; at the limit, 3/4, the fourth option is allowed, and with arrival 5 none is.
 STATE = [
-    (OPTION_INFO, 0, 0), (OPTION_INFO, 0, 1), (OPTION_INFO, 0, 2), (OPTION_INFO, 0, 3),
+    (SUMMARY,), (BEST,), (OPTION_INFO, 0, 0), (OPTION_INFO, 0, 1), (OPTION_INFO, 0, 2), (OPTION_INFO, 0, 3),
     (OPTION_NUMBER, 0, 0), (OPTION_NUMBER, 0, 1), (OPTION_NUMBER, 0, 2),
     (ALLOWED, 0), (DOMINATED, 0), (ALLOWED, 1), (DOMINATED, 1), (ALLOWED, 2), (OPTION_INFO, 1, 0),
     (ADD_OPTION, 0, 1, 4, 0), (ALLOWED, 0), (OPTION_INFO, 0, 3), (SET_ARRIVAL, 0, 5), (ALLOWED, 0),
@@ -26,7 +27,7 @@ STATE = [
 class StateAhead(unittest.TestCase):
     def test_what_the_state_answers(self):
         self.assertEqual(ask_after(AHEAD, STATE), [
-            [1, 6, 10, 1, 2], [2, 3, 20, 1, 2], [3, 2, 30, 1, 2], MISSING,
+            [2, 7, 4, 3, 4, 3, 0], NO_RESULT, [1, 6, 10, 1, 2], [2, 3, 20, 1, 2], [3, 2, 30, 1, 2], MISSING,
             [0, 1, 1, 5, 1], [0, 4, 3, 20, 3], [0, 33, 19, 165, 19],
             [3, 0, 1, 2], [2, 1, 2], [0], [0], MISSING, MISSING,
             [3], [4, 0, 1, 2, 3], [1, 4, 0, 3, 4], [3], [0],
@@ -93,12 +94,20 @@ class SetWeight(Changes):
 
 class SetTarget(Changes):
     def test_edges(self):
-        for num, den in ((0, 1), (1000000, 1), (0, 1000000), (1000000, 1000000), (7, 4), (4, 7), (6, 4)):
-            with self.subTest(num=num, den=den):
-                self.check([(SET_TARGET, num, den)], [[0]])
+        rows = [((0, 1), [0, 1]), ((1000000, 1), [1000000, 1]), ((0, 1000000), [0, 1]), ((1000000, 1000000), [1, 1]),
+                ((1, 1000000), [1, 1000000]), ((7, 4), [7, 4]), ((4, 7), [4, 7]), ((6, 4), [3, 2])]
+        for passed, target in rows:
+            with self.subTest(passed=passed):
+                self.check([(SET_TARGET, *passed), (SUMMARY,)], [[0], [2] + target + [3, 4, 3, 0]])
 
-    def test_changes_no_option(self):
-        self.check([(SET_TARGET, 0, 1)] + STATE, [[0]] + ask_after(AHEAD, STATE))
+    def test_changes_nothing_else(self):
+        rest = STATE[1:]
+        self.check([(SET_TARGET, 0, 1)] + rest, [[0]] + ask_after(AHEAD, rest))
+
+    def test_changes_what_is_feasible(self):
+        ahead = [(CREATE, 1), (ADD_OPTION, 0, 1, 3, 9), (ADD_OPTION, 0, 1, 2, 5)]
+        asked = [(BEST,), (SET_TARGET, 1, 2), (BEST,), (SET_TARGET, 1, 1), (BEST,), (SET_TARGET, 1, 3), (BEST,)]
+        self.check(asked, [NO_RESULT, [0], [9, 1, 2, 0], [0], [5, 1, 1, 1], [0], NO_RESULT], ahead)
 
     def test_outside(self):
         self.check_refused([
@@ -121,9 +130,11 @@ class SetLimit(Changes):
                    [[0], [3, 0, 1, 2], [0], [0]])
 
     def test_edges(self):
-        for num, den in ((1, 1), (1, 2), (2, 2), (1, 1000000), (999999, 1000000), (1000000, 1000000)):
-            with self.subTest(num=num, den=den):
-                self.check([(SET_LIMIT, num, den)], [[0]])
+        rows = [((1, 1), [1, 1]), ((1, 2), [1, 2]), ((2, 2), [1, 1]), ((1, 1000000), [1, 1000000]),
+                ((999999, 1000000), [999999, 1000000]), ((1000000, 1000000), [1, 1]), ((6, 9), [2, 3])]
+        for passed, limit in rows:
+            with self.subTest(passed=passed):
+                self.check([(SET_LIMIT, *passed), (SUMMARY,)], [[0], [2, 7, 4] + limit + [3, 0]])
 
     def test_a_limit_of_1_allows_no_full_option(self):
         asked = [(SET_LIMIT, 1000000, 1000000), (SET_ARRIVAL, 0, 6), (ALLOWED, 0), (SET_ARRIVAL, 0, 5), (ALLOWED, 0)]
@@ -245,6 +256,41 @@ class SetCost(Changes):
 
     def test_no_station_or_option_comes_first(self):
         self.check_refused([(SET_COST, 2, 0, 100001), (SET_COST, 0, 3, 100001), (SET_COST, 1, 0, GREATEST)], MISSING)
+
+
+class PlansFollow(unittest.TestCase):
+    """What each change does to the plans."""
+
+    AHEAD = [
+        (CREATE, 2), (SET_TARGET, 2, 1), (ADD_OPTION, 0, 1, 2, 5), (ADD_OPTION, 0, 1, 3, 9), (ADD_OPTION, 1, 1, 2, 4),
+    ]
+    ASKED = [(EVALUATE, [1, 0]), (BEST,), (COUNTS,), (FRONTIER,)]
+
+    def check(self, change, expected):
+        self.assertEqual(ask_after(self.AHEAD + change, self.ASKED), expected)
+
+    def test_as_it_is(self):
+        self.check([], [[13, 3, 2, 1], [9, 2, 1, 0, 0], [2, 2], [2, 9, 2, 1, 0, 0, 13, 3, 2, 1, 0]])
+
+    def test_arrival(self):
+        self.check([(SET_ARRIVAL, 0, 2)], [[13, 3, 1, 0], NO_RESULT, [1, 0], [1, 13, 3, 1, 1, 0]])
+
+    def test_weight(self):
+        self.check([(SET_WEIGHT, 0, 2)],
+                   [[13, 2, 1, 1], [13, 2, 1, 1, 0], [2, 1], [2, 9, 3, 1, 0, 0, 13, 2, 1, 1, 0]])
+
+    def test_limit(self):
+        self.check([(SET_LIMIT, 49, 100)], [NO_RESULT, NO_RESULT, [0, 0], [0]])
+
+    def test_added_option(self):
+        self.check([(ADD_OPTION, 1, 1, 3, 4)],
+                   [[13, 3, 2, 1], [9, 3, 2, 0, 1], [4, 4], [2, 9, 3, 2, 0, 1, 13, 1, 1, 1, 1]])
+
+    def test_removed_option(self):
+        self.check([(REMOVE_OPTION, 0, 0)], [OUT_OF_RANGE, [13, 3, 2, 0, 0], [1, 1], [1, 13, 3, 2, 0, 0]])
+
+    def test_cost(self):
+        self.check([(SET_COST, 0, 1, 5)], [[9, 3, 2, 1], [9, 3, 2, 1, 0], [2, 2], [1, 9, 3, 2, 1, 0]])
 
 
 class CreateRefused(Changes):
